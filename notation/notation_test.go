@@ -1,0 +1,79 @@
+package notation_test
+
+import (
+	"errors"
+	"reflect"
+	"testing"
+
+	"kin/data"
+	"kin/notation"
+	"kin/types"
+)
+
+// schema has A, a record of a number and a list of a text or nothing; B, an
+// enumeration; C, two bytes.
+var schema = types.Schema{Defs: []types.Def{
+	{Letter: 'A', Body: types.Record{Fields: []types.Field{
+		{Letter: types.Letter{Byte: 'x'}, Type: types.Int{}},
+		{Letter: types.Letter{Byte: 'y'}, Type: types.List{Item: textOrNothing}},
+	}}},
+	{Letter: 'B', Body: types.Enum{Symbols: []types.Letter{{Byte: 'a'}, {Byte: 'b'}}}},
+	{Letter: 'C', Body: types.Bytes{Size: 2}},
+}}
+
+var textOrNothing = types.Union{Branches: []types.Type{types.Text{}, types.Nothing{}}}
+
+func TestDefaultReadsTrees(t *testing.T) {
+	for _, c := range []struct {
+		t    types.Type
+		text string
+		want data.Datum
+	}{
+		{types.Nothing{}, "N", data.Nothing{}},
+		{types.Truth{}, "T", data.Truth(true)},
+		{types.Truth{}, "F", data.Truth(false)},
+		{types.Int{}, "-2147483648", data.Number(-2147483648)},
+		{types.Long{}, "9223372036854775807", data.Number(9223372036854775807)},
+		{types.Text{}, `"ab"`, data.Text("ab")},
+		{types.List{Item: types.Int{}}, "[]", data.List(nil)},
+		{types.List{Item: types.Int{}}, "[1,0]", data.List{data.Number(1), data.Number(0)}},
+		{types.Map{Item: types.Int{}}, "{:1,b:0}", data.Map{{Key: "", Datum: data.Number(1)}, {Key: "b", Datum: data.Number(0)}}},
+		{types.Name{Letter: 'B'}, "b", data.Symbol('b')},
+		{types.Name{Letter: 'C'}, "'ab'", data.Bytes("ab")},
+		{textOrNothing, `""`, data.Branch{Number: 0, Datum: data.Text("")}},
+		{types.Name{Letter: 'A'}, `(5,["q"])`, data.Record{
+			data.Number(5), data.List{data.Branch{Number: 0, Datum: data.Text("q")}},
+		}},
+	} {
+		got, err := notation.Default(schema, c.t, c.text)
+		if err != nil || !reflect.DeepEqual(got, c.want) {
+			t.Errorf("Default of %T, %q = %#v, %v, want %#v", c.t, c.text, got, err, c.want)
+		}
+	}
+}
+
+func TestDefaultTellsTheWay(t *testing.T) {
+	for _, c := range []struct {
+		t         types.Type
+		text, way string
+	}{
+		{types.Nothing{}, "T", "no datum of the type"},
+		{types.Nothing{}, "NN", "no datum of the type"},
+		{types.List{Item: types.Int{}}, "[1,2,T]", "item 2: no datum of the type"},
+		{types.Map{Item: types.Int{}}, "{a:1,b:T}", `key "b": no datum of the type`},
+		{types.Map{Item: types.Name{Letter: 'A'}}, `{k:(1,["",N])}`, `key "k": field y: item 1: branch 0: no datum of the type`},
+	} {
+		got, err := notation.Default(schema, c.t, c.text)
+		if got != nil || !errors.Is(err, notation.ErrNotOf) || err.Error() != c.way {
+			t.Errorf("Default of %T, %q = %v, %v, want the error %s", c.t, c.text, got, err, c.way)
+		}
+	}
+}
+
+func TestWithinIsAskedFor(t *testing.T) {
+	_, err := notation.Default(schema, types.Name{Letter: 'A'}, "(N,[])")
+	var within *notation.Within
+	if !errors.As(err, &within) || within.Step != "field x" || within.Cause != notation.ErrNotOf {
+		t.Errorf("the error is %v, want one within field x", err)
+	}
+}
