@@ -24,8 +24,12 @@ type (
 	}
 	// Record is a datum of a record: one for each field, in their order.
 	Record []Datum
-	// Symbol is a datum of an enumeration.
-	Symbol byte
+	// Symbol is a datum of an enumeration. Its text is the letter, its bytes are
+	// the number among the symbols: with both at hand, neither needs the type.
+	Symbol struct {
+		Letter byte
+		Number int
+	}
 	// Bytes is a datum of so many bytes.
 	Bytes string
 )

@@ -16,6 +16,9 @@ func oddStrings() []string {
 		schema, _ := withDefault(c[0], c[1])
 		odd = append(odd, schema, c[1])
 	}
+	for _, c := range dataAndBytes {
+		odd = append(odd, c[1], c[2])
+	}
 	const signs = "\x00\xffAFGaefrnz09-[]{}()<>,;:=!\"'NT "
 	for _, s := range append(goodSchemas, "A=r(x:[(s,i)]=[\"a\",\"\"],y:{B}={:b,a:b},z:C='ab');B=e(b!b);C=f2;(A,n)") {
 		odd = append(odd, s)
@@ -44,7 +47,7 @@ func answers(s string) []answer {
 	var all []answer
 	text, e, place := kin.Schema(s)
 	all = append(all, answer{text, place, e, false})
-	for _, pair := range [][2]string{{s, "N"}, {"n", s}, {s, s}} {
+	for _, pair := range [][2]string{{s, "N"}, {"n", s}, {s, s}, {defs + everyBranch, s}} {
 		text, e := kin.Encode(pair[0], pair[1])
 		all = append(all, answer{text, 0, e, false})
 		text, n, e := kin.Decode(pair[0], pair[1])

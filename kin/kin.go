@@ -5,8 +5,10 @@ import (
 	"errors"
 	"strings"
 
+	"kin/data"
 	"kin/notation"
 	"kin/schemas"
+	"kin/wire"
 )
 
 // Errno is what a call answers: OK or the reason for a refusal.
@@ -32,11 +34,44 @@ func Schema(schema string) (string, Errno, int) {
 	return strings.Clone(schema), OK, 0
 }
 
-// Encode writes a datum as bytes (P4). Not built yet: it answers zero values.
-func Encode(schema string, datum string) (string, Errno) { return "", OK }
+// Encode writes a datum as bytes (P4).
+func Encode(schema string, datum string) (string, Errno) {
+	bytes, err := encode(schema, datum)
+	return bytes, number(err)
+}
 
-// Decode reads a datum (P5). Not built yet: it answers zero values.
-func Decode(schema string, data string) (string, int, Errno) { return "", 0, OK }
+func encode(schema, datum string) (string, error) {
+	s, err := schemas.Read(schema)
+	if err != nil {
+		return "", err
+	}
+	d, err := notation.Read(s, datum)
+	if err != nil {
+		return "", err
+	}
+	if err := data.CheckNodes(d); err != nil {
+		return "", err
+	}
+	return wire.Write(d), nil
+}
+
+// Decode reads a datum, and tells how many bytes it has (P5).
+func Decode(schema string, data string) (string, int, Errno) {
+	text, size, err := decode(schema, data)
+	return text, size, number(err)
+}
+
+func decode(schema, bytes string) (string, int, error) {
+	s, err := schemas.Read(schema)
+	if err != nil {
+		return "", 0, err
+	}
+	d, size, err := wire.Read(s, bytes)
+	if err != nil {
+		return "", 0, err
+	}
+	return notation.Write(d), size, nil
+}
 
 // Resolve reads a datum by another schema (P6). Not built yet: it answers
 // zero values.
@@ -50,7 +85,7 @@ func Check(writer string, reader string) (bool, string, Errno) { return false, "
 
 func number(err error) Errno {
 	switch {
-	case errors.Is(err, schemas.ErrLong):
+	case isLong(err):
 		return ErrLong
 	case errors.Is(err, schemas.ErrGrammar):
 		return ErrSchema
@@ -60,8 +95,16 @@ func number(err error) Errno {
 		return ErrUnion
 	case errors.Is(err, notation.ErrNotOf):
 		return ErrDatum
+	case errors.Is(err, wire.ErrData):
+		return ErrData
+	case errors.Is(err, data.ErrBig):
+		return ErrBig
 	}
 	return OK
+}
+
+func isLong(err error) bool {
+	return errors.Is(err, schemas.ErrLong) || errors.Is(err, notation.ErrLong) || errors.Is(err, wire.ErrLong)
 }
 
 // place is where in the schema's text the fault is; a text that is too long

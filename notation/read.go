@@ -2,31 +2,47 @@ package notation
 
 import (
 	"math"
-	"strconv"
 
 	"kin/data"
 	"kin/types"
 )
 
-// Default reads the text of a field's default. There a datum of a (..) is one
-// of its first branch and bears no number. The schema's names are all defined
-// and no branch is a (..): otherwise the reading need not end.
+const maxDatum = 4000
+
+// Read reads the text of a datum of the schema's type. The schema's names are
+// all defined and no branch is a (..): otherwise the reading need not end.
+func Read(schema types.Schema, text string) (data.Datum, error) {
+	if len(text) > maxDatum {
+		return nil, ErrLong
+	}
+	r := reader{schema: schema, text: text, numbered: true}
+	return r.whole(schema.Root)
+}
+
+// Default reads the text of a field's default, of a schema as Read wants it.
+// There a datum of a (..) is one of its first branch and bears no number.
 func Default(schema types.Schema, t types.Type, text string) (data.Datum, error) {
 	r := reader{schema: schema, text: text}
+	return r.whole(t)
+}
+
+type reader struct {
+	schema   types.Schema
+	text     string
+	at       int
+	numbered bool // whether a datum of a (..) bears its branch's number
+}
+
+// whole reads a datum behind which nothing stands.
+func (r *reader) whole(t types.Type) (data.Datum, error) {
 	d, err := r.datum(t)
 	if err != nil {
 		return nil, err
 	}
-	if r.at < len(text) {
+	if r.at < len(r.text) {
 		return nil, ErrNotOf
 	}
 	return d, nil
-}
-
-type reader struct {
-	schema types.Schema
-	text   string
-	at     int
 }
 
 func (r *reader) datum(t types.Type) (data.Datum, error) {
@@ -48,7 +64,7 @@ func (r *reader) datum(t types.Type) (data.Datum, error) {
 	case types.Map:
 		return r.mapping(t)
 	case types.Union:
-		return r.firstBranch(t)
+		return r.union(t)
 	case types.Name:
 		return r.datum(r.schema.Meaning(t.Letter))
 	case types.Record:
@@ -72,14 +88,8 @@ func (r *reader) truth() (data.Datum, error) {
 }
 
 func (r *reader) number(least, most int64) (data.Datum, error) {
-	start := r.at
-	negative := r.take('-')
-	digits := r.run(isDigit)
-	if digits == "" || digits[0] == '0' && (negative || len(digits) > 1) {
-		return nil, ErrNotOf
-	}
-	n, err := strconv.ParseInt(r.text[start:r.at], 10, 64)
-	if err != nil || n < least || n > most {
+	n, ok := r.decimal(least, most)
+	if !ok {
 		return nil, ErrNotOf
 	}
 	return data.Number(n), nil
@@ -102,20 +112,41 @@ func (r *reader) bytes(t types.Bytes) (data.Datum, error) {
 }
 
 func (r *reader) symbol(t types.Enum) (data.Datum, error) {
-	for _, symbol := range t.Symbols {
+	for i, symbol := range t.Symbols {
 		if r.take(symbol.Byte) {
-			return data.Symbol(symbol.Byte), nil
+			return data.Symbol{Letter: symbol.Byte, Number: i}, nil
 		}
 	}
 	return nil, ErrNotOf
 }
 
-func (r *reader) firstBranch(t types.Union) (data.Datum, error) {
-	d, err := r.datum(t.Branches[0])
-	if err != nil {
-		return nil, &Within{Step: "branch 0", Cause: err}
+func (r *reader) union(t types.Union) (data.Datum, error) {
+	if !r.numbered {
+		return r.branch(t, 0)
 	}
-	return data.Branch{Number: 0, Datum: d}, nil
+	if !r.take('<') {
+		return nil, ErrNotOf
+	}
+	number, ok := r.decimal(0, int64(len(t.Branches)-1))
+	if !ok || !r.take(':') {
+		return nil, ErrNotOf
+	}
+	d, err := r.branch(t, int(number))
+	if err != nil {
+		return nil, err
+	}
+	if !r.take('>') {
+		return nil, ErrNotOf
+	}
+	return d, nil
+}
+
+func (r *reader) branch(t types.Union, number int) (data.Datum, error) {
+	d, err := r.datum(t.Branches[number])
+	if err != nil {
+		return nil, data.InBranch(number, err)
+	}
+	return data.Branch{Number: number, Datum: d}, nil
 }
 
 func (r *reader) list(t types.List) (data.Datum, error) {
@@ -123,7 +154,7 @@ func (r *reader) list(t types.List) (data.Datum, error) {
 	err := r.items('[', ']', func() error {
 		d, err := r.datum(t.Item)
 		if err != nil {
-			return &Within{Step: "item " + strconv.Itoa(len(list)), Cause: err}
+			return data.InItem(len(list), err)
 		}
 		list = append(list, d)
 		return nil
@@ -143,7 +174,7 @@ func (r *reader) mapping(t types.Map) (data.Datum, error) {
 		}
 		d, err := r.datum(t.Item)
 		if err != nil {
-			return &Within{Step: "key " + strconv.Quote(key), Cause: err}
+			return data.InKey(key, err)
 		}
 		entries = append(entries, data.Entry{Key: key, Datum: d})
 		return nil
@@ -163,7 +194,7 @@ func (r *reader) record(t types.Record) (data.Datum, error) {
 		field := t.Fields[len(record)]
 		d, err := r.datum(field.Type)
 		if err != nil {
-			return &Within{Step: "field " + string(field.Letter.Byte), Cause: err}
+			return data.InField(field.Letter.Byte, err)
 		}
 		record = append(record, d)
 		return nil

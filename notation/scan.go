@@ -1,5 +1,7 @@
 package notation
 
+import "strconv"
+
 // take moves behind the sign, if it is the next byte.
 func (r *reader) take(sign byte) bool {
 	if r.at < len(r.text) && r.text[r.at] == sign {
@@ -16,6 +18,18 @@ func (r *reader) run(class func(byte) bool) string {
 		r.at++
 	}
 	return r.text[start:r.at]
+}
+
+// decimal reads a number in base ten that has no needless zeros, and is no -0.
+func (r *reader) decimal(least, most int64) (int64, bool) {
+	start := r.at
+	negative := r.take('-')
+	digits := r.run(isDigit)
+	if digits == "" || digits[0] == '0' && (negative || len(digits) > 1) {
+		return 0, false
+	}
+	n, err := strconv.ParseInt(r.text[start:r.at], 10, 64)
+	return n, err == nil && n >= least && n <= most
 }
 
 // between reads letters that stand between two like marks.

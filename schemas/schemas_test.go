@@ -66,7 +66,7 @@ func TestReadWrapsWhatIsWrong(t *testing.T) {
 
 func TestReadKeepsTheWayWithinADefault(t *testing.T) {
 	_, err := schemas.Read("A=r(x:[i]=[1,N]);A")
-	var within *notation.Within
+	var within *data.Within
 	if !errors.As(err, &within) || within.Step != "item 1" {
 		t.Errorf("the error is %v, want one within item 1", err)
 	}
