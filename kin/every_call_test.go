@@ -47,7 +47,7 @@ func answers(s string) []answer {
 	var all []answer
 	text, e, place := kin.Schema(s)
 	all = append(all, answer{text, place, e, false})
-	for _, pair := range [][2]string{{s, "N"}, {"n", s}, {s, s}, {defs + everyBranch, s}} {
+	for _, pair := range [][2]string{{s, "N"}, {"n", s}, {s, s}, {defs + everyBranch, s}, {s, defs + everyBranch}} {
 		text, e := kin.Encode(pair[0], pair[1])
 		all = append(all, answer{text, 0, e, false})
 		text, n, e := kin.Decode(pair[0], pair[1])

@@ -7,7 +7,9 @@ import (
 
 	"kin/data"
 	"kin/notation"
+	"kin/reading"
 	"kin/schemas"
+	"kin/types"
 	"kin/wire"
 )
 
@@ -73,15 +75,61 @@ func decode(schema, bytes string) (string, int, error) {
 	return notation.Write(d), size, nil
 }
 
-// Resolve reads a datum by another schema (P6). Not built yet: it answers
-// zero values.
+// Resolve reads a datum by another schema (P6).
 func Resolve(writer string, reader string, data string) (string, int, Errno) {
-	return "", 0, OK
+	text, size, err := resolve(writer, reader, data)
+	return text, size, number(err)
 }
 
-// Check tells whether one schema can read what another one writes (P7). Not
-// built yet: it answers zero values.
-func Check(writer string, reader string) (bool, string, Errno) { return false, "", OK }
+func resolve(writer, reader, bytes string) (string, int, error) {
+	w, r, err := readBoth(writer, reader)
+	if err != nil {
+		return "", 0, err
+	}
+	d, size, err := wire.Read(w, bytes)
+	if err != nil {
+		return "", 0, err
+	}
+	made, err := reading.Make(w, r, d)
+	if err != nil {
+		return "", 0, err
+	}
+	if err := data.CheckNodes(made); err != nil {
+		return "", 0, err
+	}
+	return notation.Write(made), size, nil
+}
+
+// Check tells whether one schema can read what another one writes; if not, it
+// shows a datum that it can't (P7).
+func Check(writer string, reader string) (bool, string, Errno) {
+	unread, err := check(writer, reader)
+	return err == nil && unread == "", unread, number(err)
+}
+
+// check answers the empty string, if all data can be read: it is no datum's
+// text.
+func check(writer, reader string) (string, error) {
+	w, r, err := readBoth(writer, reader)
+	if err != nil {
+		return "", err
+	}
+	d, err := reading.Unread(w, r)
+	if err != nil || d == nil {
+		return "", err
+	}
+	return notation.Write(d), nil
+}
+
+func readBoth(writer, reader string) (w, r types.Schema, err error) {
+	if w, err = schemas.Read(writer); err != nil {
+		return types.Schema{}, types.Schema{}, err
+	}
+	if r, err = schemas.Read(reader); err != nil {
+		return types.Schema{}, types.Schema{}, err
+	}
+	return w, r, nil
+}
 
 func number(err error) Errno {
 	switch {
@@ -99,6 +147,8 @@ func number(err error) Errno {
 		return ErrData
 	case errors.Is(err, data.ErrBig):
 		return ErrBig
+	case errors.Is(err, reading.ErrNothing):
+		return ErrKin
 	}
 	return OK
 }

@@ -78,6 +78,34 @@ func (Record) node()  {}
 func (Enum) node()    {}
 func (Bytes) node()   {}
 
+// Has tells which of the record's fields has the letter.
+func (r Record) Has(letter byte) (int, bool) {
+	for i, field := range r.Fields {
+		if field.Letter.Byte == letter {
+			return i, true
+		}
+	}
+	return 0, false
+}
+
+// Reads tells which of the enumeration's symbols another one's symbol is read
+// as: the same one, or that which stands for those that are not known.
+func (e Enum) Reads(symbol byte) (int, bool) {
+	if i, ok := e.has(symbol); ok || e.Unknown == nil {
+		return i, ok
+	}
+	return e.has(e.Unknown.Byte)
+}
+
+func (e Enum) has(symbol byte) (int, bool) {
+	for i, s := range e.Symbols {
+		if s.Byte == symbol {
+			return i, true
+		}
+	}
+	return 0, false
+}
+
 // Letter is a field's letter or a symbol, where it stands.
 type Letter struct {
 	Spot
